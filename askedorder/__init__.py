@@ -1,0 +1,1 @@
+"""How the lists of CPython 3.13 are sorted, question by question."""
