@@ -1,5 +1,6 @@
 """The names of the interface: where they are defined, and what they are called with."""
 
+import doctest
 import importlib
 import inspect
 import pathlib
@@ -58,6 +59,12 @@ class Interface(unittest.TestCase):
                 self.assertLess(len(lines), 400)
                 self.assertLessEqual(max(len(line) for line in lines), 120)
                 self.assertNotIn("\t", "".join(lines))
+
+    def test_examples_of_the_readme(self):
+        readme = pathlib.Path(__file__).parent.parent / "README.md"
+        found = doctest.testfile(str(readme), module_relative=False)
+        self.assertGreater(found.attempted, 0)
+        self.assertEqual(found.failed, 0)
 
 
 if __name__ == "__main__":

@@ -28,6 +28,17 @@ def long_rows():
     yield [-min(place // 4, 100) + max(place - 700, 0) for place in range(1000)]
 
 
+def told_runs(many):
+    """All rows of answers that do not go on behind the run, each with what is told of it."""
+    waiting = [[]]
+    while waiting:
+        answers = waiting.pop()
+        found = told_run(many, answers)
+        yield answers, found
+        if found[0] is None:
+            waiting += [answers + [False], answers + [True]]
+
+
 def wrong_index(keys):
     if type(keys) in (list, tuple):
         return first_index(keys, lambda key: not is_int(key))
@@ -294,17 +305,13 @@ class ToldRun(Raising, unittest.TestCase):
 
     def test_all_answers(self):
         for many in range(1, 7):
-            waiting = [[]]
-            while waiting:
-                answers = waiting.pop()
+            for answers, found in told_runs(many):
                 length, row, questions = reference.run_by_answers(many, answers)
-                found = told_run(many, answers)
-                self.assertEqual((found[0], found[1]), (length, row))
+                self.assertEqual(found[:2], (length, row))
                 self.assertEqual(found[2][:len(answers)], questions)
                 self.assertEqual(len(found[2]), len(answers) + (length is None))
                 if length is None:
-                    self.assertEqual(found[2], told_run(many, answers + [True])[2][:len(answers) + 1])
-                    waiting += [answers + [False], answers + [True]]
+                    self.assertEqual(told_run(many, answers + [True])[2][:len(found[2])], found[2])
                 else:
                     self.assert_raises(Mismatch("answers"), told_run, many, answers + [False])
 
@@ -359,7 +366,7 @@ class Facts(unittest.TestCase):
     def test_a_run_stands_in_its_stable_order(self):
         for keys in small_keys(5):
             for start in range(len(keys)):
-                length, found, questions = run_of(keys, start)
+                length, found, _ = run_of(keys, start)
                 stable = stable_order(keys[start:start + length])
                 self.assertEqual(found, [start + item for item in stable])
                 if start + length < len(keys):
@@ -377,16 +384,11 @@ class Facts(unittest.TestCase):
 
     def test_any_answers(self):
         for many in range(1, 7):
-            waiting = [[]]
-            while waiting:
-                answers = waiting.pop()
-                length, row, questions = told_run(many, answers)
+            for _, (length, row, questions) in told_runs(many):
                 self.assertEqual(sorted(row), list(range(many)))
-                if length is None:
-                    waiting += [answers + [False], answers + [True]]
-                else:
+                self.assertLessEqual(len(questions), max(2 * many - 2, 0))
+                if length is not None:
                     self.assertGreaterEqual(length, min(many, 2))
-                    self.assertLessEqual(len(questions), max(2 * many - 2, 0))
 
     def test_items_outside_the_stretch_do_not_move(self):
         for keys in small_keys(5):
@@ -442,14 +444,10 @@ class ListSort(unittest.TestCase):
 
     def test_any_answers(self):
         for many in range(1, 7):
-            waiting = [[]]
-            while waiting:
-                answers = waiting.pop()
-                length, row, questions = told_run(many, answers)
+            for answers, (length, row, questions) in told_runs(many):
                 if length is None:
-                    sorted_row, asked = self.sort(many, lambda at, one, other: answers[at], len(answers))
-                    self.assertEqual((sorted_row, asked), (row, questions[:-1]))
-                    waiting += [answers + [False], answers + [True]]
+                    found = self.sort(many, lambda at, one, other: answers[at], len(answers))
+                    self.assertEqual(found, (row, questions[:-1]))
 
 
 if __name__ == "__main__":
