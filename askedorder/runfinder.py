@@ -72,13 +72,13 @@ class RunFinder:
 
     def _take_still_equal(self, is_less):
         if is_less:
-            self._lay_rising()
+            self._make_rising()
         else:
             self.equal += 1
             self.step = FALLING
             self._go_on()
 
-    def _lay_rising(self):
+    def _make_rising(self):
         self._turn_equal()
         self._turn(self.start)
         self.step = RISING_ON
@@ -98,7 +98,7 @@ class RunFinder:
         if self.place < self.end:
             self.waiting = (self.row[self.place], self.row[self.place - 1])
         elif self.step == FALLING:
-            self._lay_rising()
+            self._make_rising()
         else:
             self._finish()
 

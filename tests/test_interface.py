@@ -1,10 +1,19 @@
 """The names of the interface: where they are defined, and what they are called with."""
 
+import ast
 import doctest
 import importlib
 import inspect
 import pathlib
+import re
 import unittest
+
+# What rule L12 of LANGUAGE.md lets no name begin with, and what no name is.
+BARRED_BEGINNINGS = (
+    "__", "_wall", "_pe_", "_dcw_", "_enum_", "_cm_", "_twin_re_", "_lay_", "_law_", "_stub_", "_sre", "_WallAttr",
+)
+BARRED_NAMES = re.compile("(_cold|_tuplegetter|_outside|_record|_written_out|_member_names)[0-9_]*")
+PLAIN_NAME = re.compile("_?[A-Za-z][A-Za-z0-9_]*")
 
 INTERFACE = {
     "askedorder.rows": {
@@ -37,6 +46,26 @@ INTERFACE = {
 }
 
 
+def package_files():
+    return sorted(pathlib.Path(importlib.import_module("askedorder").__file__).parent.glob("**/*.py"))
+
+
+def names_of(tree):
+    """All names in a parsed file: of variables, functions, classes, arguments, attributes, modules."""
+    for node in ast.walk(tree):
+        for field in ("id", "attr", "arg", "name", "asname", "module"):
+            value = getattr(node, field, None)
+            if isinstance(value, str):
+                yield from value.split(".")
+
+
+def is_plain_name(name):
+    """Whether rule L12 lets a name be."""
+    if name in ("_", "__init__"):
+        return True
+    return bool(PLAIN_NAME.fullmatch(name)) and not name.startswith(BARRED_BEGINNINGS) and not BARRED_NAMES.fullmatch(name)
+
+
 class Interface(unittest.TestCase):
     def test_each_name_is_defined_in_its_file(self):
         for module, names in INTERFACE.items():
@@ -52,13 +81,23 @@ class Interface(unittest.TestCase):
                     self.assertEqual(str(found), arguments)
 
     def test_size_and_characters_of_the_files(self):
-        package = pathlib.Path(importlib.import_module("askedorder").__file__).parent
-        for file in sorted(package.glob("**/*.py")):
+        for file in package_files():
             with self.subTest(file.name):
                 lines = file.read_text(encoding="ascii").split("\n")
                 self.assertLess(len(lines), 400)
                 self.assertLessEqual(max(len(line) for line in lines), 120)
                 self.assertNotIn("\t", "".join(lines))
+
+    def test_names_are_plain(self):
+        for name in ("low", "_low", "_", "__init__", "_make_rising", "_laying", "_recorder"):
+            self.assertTrue(is_plain_name(name), name)
+        for name in ("_lay_rising", "_wall", "_walls", "_law_of", "__low", "_9", "_cold", "_cold_1", "_record2", "_sre"):
+            self.assertFalse(is_plain_name(name), name)
+        for file in package_files():
+            text = file.read_text(encoding="ascii")
+            with self.subTest(file.name):
+                self.assertEqual([name for name in names_of(ast.parse(text)) if not is_plain_name(name)], [])
+                self.assertNotRegex(text, r"\b(_wall|_WallAttr)\b")
 
     def test_examples_of_the_readme(self):
         readme = pathlib.Path(__file__).parent.parent / "README.md"
