@@ -1,8 +1,9 @@
 """Checks of arguments: each one raises the error of the general rules."""
 
-from askedorder.errors import InvalidAnswers, InvalidKeys, InvalidNumber, InvalidOrder, InvalidQuestion
+from askedorder.errors import InvalidAnswers, InvalidKeys, InvalidLengths, InvalidNumber, InvalidOrder, InvalidQuestion
 
 MOST_KEYS = 2000
+GREATEST_ROW = 10 ** 30
 
 
 def is_integer(value):
@@ -10,13 +11,18 @@ def is_integer(value):
     return isinstance(value, int) and not isinstance(value, bool)
 
 
+def is_within(value, least, most):
+    """Returns whether a value is an integer from `least` to `most`, without a bound above if that is None."""
+    return is_integer(value) and value >= least and (most is None or value <= most)
+
+
 def is_item(value, many):
     """Returns whether a value is one of so many items."""
-    return is_integer(value) and 0 <= value < many
+    return is_within(value, 0, many - 1)
 
 
-def check_keys(keys):
-    if not isinstance(keys, (list, tuple)) or len(keys) > MOST_KEYS:
+def check_keys(keys, fewest=0, most=MOST_KEYS):
+    if not isinstance(keys, (list, tuple)) or not fewest <= len(keys) <= most:
         raise InvalidKeys(-1)
     for index, key in enumerate(keys):
         if not is_integer(key):
@@ -49,8 +55,17 @@ def check_order(order, many):
         seen[item] = True
 
 
-def check_number(name, value, least, most):
-    if not is_integer(value) or not least <= value <= most:
+def check_lengths(lengths, fewest, most, longest=None):
+    """Checks a row of integers from 1 to `longest`, of any size if it is None."""
+    if not isinstance(lengths, (list, tuple)) or not fewest <= len(lengths) <= most:
+        raise InvalidLengths(-1)
+    for index, length in enumerate(lengths):
+        if not is_within(length, 1, longest):
+            raise InvalidLengths(index)
+
+
+def check_number(name, value, least, most=None):
+    if not is_within(value, least, most):
         raise InvalidNumber(name)
 
 

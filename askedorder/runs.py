@@ -1,5 +1,6 @@
 """Runs: how they are found in the row 0, 1, .., n - 1."""
 
+from askedorder.asking import ask_honestly, give_answers, honest_answers
 from askedorder.checks import MOST_KEYS, check_answers, check_keys, check_number
 from askedorder.errors import Mismatch
 from askedorder.runfinder import RunFinder
@@ -10,8 +11,9 @@ def run_of(keys, start):
     check_keys(keys)
     check_number("start", start, 0, len(keys) - 1)
     row = list(range(len(keys)))
-    length, questions = _find_honestly(keys, row, start)
-    return length, row[start:start + length], questions
+    finder = RunFinder(row, start, len(row))
+    questions = ask_honestly(finder, keys)
+    return finder.length, row[start:start + finder.length], questions
 
 
 def run_lengths(keys):
@@ -21,9 +23,10 @@ def run_lengths(keys):
     lengths = []
     start = 0
     while start < len(keys):
-        length, _ = _find_honestly(keys, row, start)
-        lengths.append(length)
-        start += length
+        finder = RunFinder(row, start, len(row))
+        ask_honestly(finder, keys)
+        lengths.append(finder.length)
+        start += finder.length
     return lengths
 
 
@@ -31,12 +34,10 @@ def standing(keys, start, count):
     """Returns the row if the question behind the first `count` ones fails."""
     check_keys(keys)
     check_number("start", start, 0, len(keys) - 1)
-    _, questions = _find_honestly(keys, list(range(len(keys))), start)
+    questions = ask_honestly(RunFinder(list(range(len(keys))), start, len(keys)), keys)
     check_number("count", count, 0, len(questions))
     row = list(range(len(keys)))
-    finder = RunFinder(row, start, len(keys))
-    for one, other in questions[:count]:
-        finder.take(keys[one] < keys[other])
+    give_answers(RunFinder(row, start, len(row)), honest_answers(keys, questions[:count]))
     return row
 
 
@@ -46,23 +47,9 @@ def told_run(many, answers):
     check_answers(answers)
     row = list(range(many))
     finder = RunFinder(row, 0, many)
-    questions = []
-    for answer in answers:
-        if finder.waiting is None:
-            raise Mismatch("answers")
-        questions.append(finder.waiting)
-        finder.take(answer)
+    questions = give_answers(finder, answers)
+    if len(questions) < len(answers):
+        raise Mismatch("answers")
     if finder.waiting is not None:
         questions.append(finder.waiting)
     return finder.length, row, questions
-
-
-def _find_honestly(keys, row, start):
-    """Finds the run at `start`, changing the row; returns (length, questions)."""
-    finder = RunFinder(row, start, len(row))
-    questions = []
-    while finder.waiting is not None:
-        one, other = finder.waiting
-        questions.append(finder.waiting)
-        finder.take(keys[one] < keys[other])
-    return finder.length, questions

@@ -12,9 +12,11 @@ class Asker:
         self.answer = answer
         self.most = most
         self.questions = []
+        self.refused = None
 
     def less(self, one, other):
         if len(self.questions) == self.most:
+            self.refused = (one, other)
             raise Stopped
         self.questions.append((one, other))
         return self.answer(len(self.questions) - 1, one, other)

@@ -27,6 +27,42 @@ INTERFACE = {
         "standing": "(keys, start, count)",
         "told_run": "(many, answers)",
     },
+    "askedorder.placing": {
+        "least_length": "(many)",
+        "placed": "(keys, ready)",
+        "placing_standing": "(keys, ready, count)",
+        "told_placing": "(many, ready, answers)",
+        "fewest_placing": "(many, ready)",
+        "most_placing": "(many, ready)",
+        "easy_keys": "(many, ready)",
+        "hard_keys": "(many, ready)",
+    },
+    "askedorder.leaps": {
+        "before": "(key, keys, hint)",
+        "behind": "(key, keys, hint)",
+        "leap_places": "(n, hint, place)",
+        "most_leap": "(n, hint)",
+        "total_leap": "(n, hint)",
+    },
+    "askedorder.joins": {
+        "joined": "(first, second, patience=7)",
+        "standing_in": "(first, second, patience, count)",
+        "answered": "(sizes, answers, patience=7)",
+        "join_count": "(lengths, patience=7)",
+    },
+    "askedorder.levels": {
+        "level": "(start, first, second, whole)",
+        "levels": "(lengths)",
+        "stack": "(lengths)",
+        "depth": "(lengths)",
+        "merges": "(lengths)",
+        "cost": "(lengths)",
+        "rounds": "(lengths)",
+        "least_cost": "(lengths)",
+        "least_way": "(lengths)",
+        "is_way": "(lengths, joins)",
+        "first_unlike": "(lengths, joins)",
+    },
     "askedorder.errors": {
         "InvalidKeys": "(index)",
         "InvalidQuestion": "(question)",
@@ -98,6 +134,11 @@ class Interface(unittest.TestCase):
             with self.subTest(file.name):
                 self.assertEqual([name for name in names_of(ast.parse(text)) if not is_plain_name(name)], [])
                 self.assertNotRegex(text, r"\b(_wall|_WallAttr)\b")
+
+    def test_examples_of_the_document(self):
+        found = doctest.testfile("examples.txt")
+        self.assertGreater(found.attempted, 0)
+        self.assertEqual(found.failed, 0)
 
     def test_examples_of_the_readme(self):
         readme = pathlib.Path(__file__).parent.parent / "README.md"

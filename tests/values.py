@@ -1,6 +1,8 @@
 """Values of many kinds, to be put in the place of arguments, and a check that uses them."""
 
-from askedorder.errors import InvalidKeys, Mismatch, SortError
+import copy
+
+from askedorder.errors import InvalidAnswers, InvalidKeys, InvalidLengths, InvalidNumber, Mismatch, SortError
 
 HUGE = 10 ** 5000
 
@@ -30,6 +32,11 @@ def is_keys(value):
     return type(value) in (list, tuple) and len(value) <= 2000 and all(is_int(key) for key in value)
 
 
+def int_within(least, most=None):
+    """A function that tells whether a value is an integer from `least` to `most`."""
+    return lambda value: is_int(value) and value >= least and (most is None or value <= most)
+
+
 def is_answers(value):
     return type(value) in (list, tuple) and all(type(answer) is bool for answer in value)
 
@@ -51,3 +58,98 @@ class Raising:
         self.assertEqual(list(vars(caught.exception)), [name])
         got = getattr(caught.exception, name)
         self.assertTrue(got is value or (type(got) is type(value) and got == value), (name, got))
+
+
+def keys_error(value, fewest=0, most=2000):
+    """The error that a value raises in the place of keys, None if it is such."""
+    return _row_error(InvalidKeys, value, fewest, most, is_int)
+
+
+def answers_error(value):
+    return _row_error(InvalidAnswers, value, 0, 10 ** 9, lambda answer: type(answer) is bool)
+
+
+def lengths_error(value, fewest, most, longest=None):
+    return _row_error(InvalidLengths, value, fewest, most, int_within(1, longest))
+
+
+def number_error(name, is_right):
+    """A function that returns the error of a value in the place of a number, None if it is one."""
+    return lambda value: None if is_right(value) else InvalidNumber(name)
+
+
+def _row_error(error, value, fewest, most, is_right):
+    if type(value) not in (list, tuple) or not fewest <= len(value) <= most:
+        return error(-1)
+    if all(is_right(entry) for entry in value):
+        return None
+    return error(first_index(value, lambda entry: not is_right(entry)))
+
+
+class Checking(Raising):
+    """To be mixed into a TestCase."""
+
+    def assert_rejected(self, call, args, place, error_of, more=()):
+        """Puts odd values, and `more`, in the place of one argument: by position and by keyword.
+
+        The arguments behind it are wrong, too, so that the first one decides.
+        """
+        names = argument_names(call)[:len(args)]
+        rejected = 0
+        for value in [*odd_values(), *more]:
+            error = error_of(value)
+            if error is not None:
+                rejected += 1
+                self.assert_raises(error, call, *args[:place], value, *args[place + 1:])
+                wrong = [*args[:place], value, *[None] * (len(args) - place - 1)]
+                self.assert_raises(error, call, **dict(zip(names, wrong)))
+        self.assertGreater(rejected, 0)
+
+    def assert_same(self, found, expected):
+        """Checks that two values are equal, and made of values of the same kinds."""
+        self.assertTrue(same(found, expected), (found, expected))
+
+    def assert_pure(self, call, *args):
+        """Checks what holds of all calls; returns what this one returns.
+
+        It changes no argument, what it returns is new, arguments by keyword
+        are the same as by position, and tuples the same as lists.
+        """
+        ahead = copy.deepcopy(args)
+        found = call(*args)
+        self.assert_same(args, ahead)
+        kept = copy.deepcopy(found)
+        spoil(found)
+        self.assert_same(call(*args), kept)
+        self.assert_same(call(**dict(zip(argument_names(call), args))), kept)
+        self.assert_same(call(*[other_kind(arg) for arg in args]), kept)
+        return kept
+
+
+def argument_names(call):
+    return call.__code__.co_varnames[:call.__code__.co_argcount]
+
+
+def same(one, other):
+    if type(one) is not type(other):
+        return False
+    if isinstance(one, (list, tuple)):
+        return len(one) == len(other) and all(map(same, one, other))
+    return one == other
+
+
+def spoil(value):
+    """Changes all lists in what was returned."""
+    if isinstance(value, (list, tuple)):
+        for entry in value:
+            spoil(entry)
+    if isinstance(value, list):
+        value.append("spoilt")
+        value.reverse()
+
+
+def other_kind(value):
+    """A tuple for a list, and a list for a tuple."""
+    if isinstance(value, list):
+        return tuple(value)
+    return list(value) if isinstance(value, tuple) else value
