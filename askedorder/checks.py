@@ -3,6 +3,7 @@
 from askedorder.errors import InvalidAnswers, InvalidKeys, InvalidLengths, InvalidNumber, InvalidOrder, InvalidQuestion
 
 MOST_KEYS = 2000
+MOST_ENTRIES = 5000
 GREATEST_ROW = 10 ** 30
 
 
@@ -29,11 +30,16 @@ def check_keys(keys, fewest=0, most=MOST_KEYS):
             raise InvalidKeys(index)
 
 
+def is_question(value, many):
+    """Returns whether a value is a question of so many items."""
+    if not isinstance(value, tuple) or len(value) != 2:
+        return False
+    one, other = value
+    return is_item(one, many) and is_item(other, many) and one != other
+
+
 def check_question(question, many):
-    if not isinstance(question, tuple) or len(question) != 2:
-        raise InvalidQuestion(question)
-    one, other = question
-    if not is_item(one, many) or not is_item(other, many) or one == other:
+    if not is_question(question, many):
         raise InvalidQuestion(question)
 
 
@@ -45,6 +51,22 @@ def check_answers(answers):
             raise InvalidAnswers(index)
 
 
+def check_log(log, many):
+    if not isinstance(log, (list, tuple)) or len(log) > MOST_ENTRIES:
+        raise InvalidAnswers(-1)
+    for index, entry in enumerate(log):
+        if not _is_entry(entry, many):
+            raise InvalidAnswers(index)
+
+
+def _is_entry(value, many):
+    """Returns whether a value is an entry of a log: a question and its answer."""
+    if not isinstance(value, tuple) or len(value) != 2:
+        return False
+    question, answer = value
+    return is_question(question, many) and isinstance(answer, bool)
+
+
 def check_order(order, many):
     if not isinstance(order, (list, tuple)) or len(order) != many:
         raise InvalidOrder(-1)
@@ -53,6 +75,13 @@ def check_order(order, many):
         if not is_item(item, many) or seen[item]:
             raise InvalidOrder(index)
         seen[item] = True
+
+
+def check_any_order(order, most):
+    """Checks an order of as many items as it has entries, which are not more than `most`."""
+    if not isinstance(order, (list, tuple)) or len(order) > most:
+        raise InvalidOrder(-1)
+    check_order(order, len(order))
 
 
 def check_lengths(lengths, fewest, most, longest=None):

@@ -2,6 +2,7 @@
 
 from askedorder.checks import GREATEST_ROW, check_keys, check_number, is_integer
 from askedorder.errors import InvalidNumber
+from askedorder.halving import most_of_halving, total_of_halving
 from askedorder.leaper import leap, places_of_leap
 
 
@@ -32,7 +33,7 @@ def most_leap(n, hint):
     for left, right, asked in _endings(n, hint):
         # Halving that never finds a low place ends at `left`, and asks most:
         # of the two halves it goes on with the one that is not shorter.
-        number = asked + (right - left).bit_length()
+        number = asked + most_of_halving(right - left)
         if number > most or number == most and left < least_place:
             most = number
             least_place = left
@@ -44,7 +45,7 @@ def total_leap(n, hint):
     _check_row(n, hint)
     total = 0
     for left, right, asked in _endings(n, hint):
-        total += (right - left + 1) * asked + _total_of_halving(right - left)
+        total += (right - left + 1) * asked + total_of_halving(right - left)
     return total
 
 
@@ -77,17 +78,6 @@ def _ending(hint, last, step, upward, asked):
     if upward:
         return hint + last + 1, hint + step, asked
     return hint - step + 1, hint - last, asked
-
-
-def _total_of_halving(size):
-    """Returns how many places halving asks, over all size + 1 places that it can find.
-
-    Some of them take as many as size + 1 can be halved, rounded down, until
-    it is 1, the others one more.
-    """
-    fewest = (size + 1).bit_length() - 1
-    with_one_more = 2 * (size + 1 - (1 << fewest))
-    return (size + 1) * fewest + with_one_more
 
 
 def _check_leap(key, keys, hint):

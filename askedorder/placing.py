@@ -3,6 +3,7 @@
 from askedorder.asking import ask_honestly, give_answers, honest_answers
 from askedorder.checks import GREATEST_ROW, check_answers, check_keys, check_number
 from askedorder.errors import Mismatch
+from askedorder.halving import fewest_of_halving, most_of_halving
 from askedorder.placer import Placer
 
 MOST_PLACED = 64
@@ -56,13 +57,13 @@ def told_placing(many, ready, answers):
 def fewest_placing(many, ready):
     """Returns how many questions placing asks at least."""
     _check_numbers(many, ready)
-    return sum([(index + 1).bit_length() - 1 for index in _placed_indexes(many, ready)])
+    return sum([fewest_of_halving(index) for index in _placed_indexes(many, ready)])
 
 
 def most_placing(many, ready):
     """Returns how many questions placing asks at most."""
     _check_numbers(many, ready)
-    return sum([index.bit_length() for index in _placed_indexes(many, ready)])
+    return sum([most_of_halving(index) for index in _placed_indexes(many, ready)])
 
 
 def easy_keys(many, ready):

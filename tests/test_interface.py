@@ -63,6 +63,29 @@ INTERFACE = {
         "is_way": "(lengths, joins)",
         "first_unlike": "(lengths, joins)",
     },
+    "askedorder.sorting": {
+        "order_of": "(keys, *, reverse=False)",
+        "questions_of": "(keys, *, reverse=False)",
+        "count_of": "(keys, *, reverse=False)",
+        "pieces_of": "(keys, *, reverse=False)",
+        "steps_of": "(keys, *, reverse=False)",
+    },
+    "askedorder.live": {
+        "Sorter": "(many, *, reverse=False)",
+    },
+    "askedorder.answers": {
+        "told": "(many, answers, *, reverse=False)",
+        "judged": "(many, log, *, reverse=False)",
+        "are_honest": "(many, log)",
+        "first_lie": "(many, log)",
+        "least_keys": "(many, log)",
+        "answers_for": "(order, *, reverse=False)",
+        "ended_rows": "(many)",
+        "honest_rows": "(many)",
+    },
+    "askedorder.lines": {
+        "Line": "(values)",
+    },
     "askedorder.errors": {
         "InvalidKeys": "(index)",
         "InvalidQuestion": "(question)",
@@ -78,6 +101,40 @@ INTERFACE = {
         "RowChanged": "(count)",
         "TooLarge": "(limit)",
         "Mismatch": "(name)",
+    },
+}
+
+METHODS = {
+    ("askedorder.live", "Sorter"): {
+        "wanted": "(self)",
+        "reply": "(self, is_less)",
+        "asked": "(self)",
+        "order": "(self)",
+        "patience": "(self)",
+        "pieces": "(self)",
+        "doing": "(self)",
+        "undo": "(self)",
+        "copied": "(self)",
+    },
+    ("askedorder.lines", "Line"): {
+        "shown": "(self)",
+        "depth": "(self)",
+        "begin": "(self, *, reverse=False, by='less')",
+        "wants": "(self)",
+        "asked": "(self)",
+        "give": "(self, answer)",
+        "fail": "(self)",
+        "standing": "(self)",
+        "is_changed": "(self)",
+        "append": "(self, value)",
+        "insert": "(self, place, value)",
+        "extend": "(self, values)",
+        "replace": "(self, values)",
+        "pop": "(self, place=-1)",
+        "remove": "(self, value)",
+        "clear": "(self)",
+        "turn": "(self)",
+        "copied": "(self)",
     },
 }
 
@@ -116,6 +173,13 @@ class Interface(unittest.TestCase):
                     found = inspect.signature(getattr(importlib.import_module(module), name))
                     self.assertEqual(str(found), arguments)
 
+    def test_each_method_is_defined_in_its_class(self):
+        for (module, name), methods in METHODS.items():
+            for method, arguments in methods.items():
+                with self.subTest(name=name, method=method):
+                    found = vars(getattr(importlib.import_module(module), name))[method]
+                    self.assertEqual((found.__module__, str(inspect.signature(found))), (module, arguments))
+
     def test_size_and_characters_of_the_files(self):
         for file in package_files():
             with self.subTest(file.name):
@@ -123,6 +187,9 @@ class Interface(unittest.TestCase):
                 self.assertLess(len(lines), 400)
                 self.assertLessEqual(max(len(line) for line in lines), 120)
                 self.assertNotIn("\t", "".join(lines))
+                for node in ast.walk(ast.parse("\n".join(lines))):
+                    if isinstance(node, ast.FunctionDef):
+                        self.assertLessEqual(node.end_lineno - node.lineno + 1, 40, node.name)
 
     def test_names_are_plain(self):
         for name in ("low", "_low", "_", "__init__", "_make_rising", "_laying", "_recorder"):

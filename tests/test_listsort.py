@@ -1,20 +1,18 @@
-"""Placing, leaps, joins and levels against list.sort itself.
+"""The sort, and the joins in it, against list.sort itself.
 
-The parts are put together as stage 7 of the document tells. Up to version 3.12
-list.sort finds its runs in another way, told here by OldRunFinder; all else is
-asked as in 3.13 from 3.11 on.
+Up to version 3.12 list.sort finds its runs in another way, told here by
+OldRunFinder; all else is asked as in 3.13 from 3.11 on.
 """
 
 import functools
 import random
 import sys
 import unittest
+from unittest import mock
 
-from askedorder.joiner import Joiner
+from askedorder import listsort
 from askedorder.joins import joined, standing_in
-from askedorder.piecestack import PieceStack
-from askedorder.placer import Placer
-from askedorder.placing import least_length
+from askedorder.listsort import ListSort
 from askedorder.runfinder import RunFinder
 
 
@@ -50,60 +48,16 @@ class OldRunFinder:
             self.row[self.start:self.end] = self.row[self.start:self.end][::-1]
 
 
-class Sort:
-    """A sort by the parts, with any answers, stopped by Failed behind so many questions."""
-
-    def __init__(self, many, answer, most=None):
-        self.row = list(range(many))
-        self.answer = answer
-        self.most = most
-        self.asked = []
-        self.patience = 7
-        self.pieces = PieceStack(many)
-
-    def drive(self, machine):
-        while machine.waiting is not None:
-            if len(self.asked) == self.most:
-                raise Failed
-            self.asked.append(machine.waiting)
-            machine.take(self.answer(len(self.asked) - 1, *machine.waiting))
-
-    def join(self, place):
-        start, first, second = self.pieces.join_at(place)
-        middle, end = start + first, start + first + second
-        joiner = Joiner(self.row[start:middle], self.row[middle:end], self.patience)
-        try:
-            self.drive(joiner)
-        finally:
-            self.row[start:end] = joiner.order_now()
-            self.patience = joiner.patience_now
-
-    def run(self):
-        many, start = len(self.row), 0
-        while start < many and many > 1:
-            finder = (RunFinder if sys.version_info >= (3, 13) else OldRunFinder)(self.row, start, many)
-            self.drive(finder)
-            length = min(max(finder.length, least_length(many)), many - start)
-            self.drive(Placer(self.row, start, start + length, finder.length))
-            border = self.pieces.border_to(length) if self.pieces.piled else None
-            while border is not None and self.pieces.has_to_join(border):
-                self.join(len(self.pieces.piled) - 2)
-            self.pieces.put(start, length, border)
-            start += length
-        while len(self.pieces.piled) > 1:
-            self.join(self.pieces.next_to_join())
+def sort_by_package(many, answer, most=None, reverse=False):
+    """What the list shows, and the questions, behind at most so many of them."""
+    with mock.patch.object(listsort, "RunFinder", RunFinder if sys.version_info >= (3, 13) else OldRunFinder):
+        sort = ListSort(many, reverse)
+        while sort.waiting is not None and len(sort.log) != most:
+            sort.take(answer(len(sort.log), *sort.waiting))
+    return sort.order_now(), [question for question, _ in sort.log]
 
 
-def sort_by_parts(many, answer, most=None):
-    sort = Sort(many, answer, most)
-    try:
-        sort.run()
-    except Failed:
-        pass
-    return sort.row, sort.asked
-
-
-def sort_by_python(many, answer, most=None):
+def sort_by_python(many, answer, most=None, reverse=False):
     asked = []
 
     def compare(one, other):
@@ -114,7 +68,7 @@ def sort_by_python(many, answer, most=None):
 
     row = list(range(many))
     try:
-        row.sort(key=functools.cmp_to_key(compare))
+        row.sort(key=functools.cmp_to_key(compare), reverse=reverse)
     except Failed:
         pass
     return row, asked
@@ -136,13 +90,15 @@ def rows_of_keys(numbers):
 
 
 @unittest.skipUnless(sys.implementation.name == "cpython" and sys.version_info >= (3, 11), "list.sort asks so in CPython")
-class ListSort(unittest.TestCase):
+class AgainstListSort(unittest.TestCase):
     def check(self, many, answer, numbers):
-        row, asked = sort_by_python(many, answer)
-        self.assertEqual(sort_by_parts(many, answer), (row, asked))
-        for _ in range(6):
-            most = numbers.randrange(len(asked) + 1)
-            self.assertEqual(sort_by_parts(many, answer, most), sort_by_python(many, answer, most))
+        for reverse in (False, True):
+            row, asked = sort_by_python(many, answer, None, reverse)
+            self.assertEqual(sort_by_package(many, answer, None, reverse), (row, asked))
+            for _ in range(6):
+                most = numbers.randrange(len(asked) + 1)
+                expected = sort_by_python(many, answer, most, reverse)
+                self.assertEqual(sort_by_package(many, answer, most, reverse), expected)
 
     def test_honest_answers(self):
         numbers = random.Random(21)
