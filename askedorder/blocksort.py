@@ -52,8 +52,8 @@ class StretchRun:
     def _pass_one(self):
         move, many = self.moves.pop()
         self.place += 1
-        if many > 1:
-            self.moves.append((move, many - 1))
+        # A move of no items that is left is passed with those that follow.
+        self.moves.append((move, many - 1))
 
     def _pass_not_falling(self):
         """Passes all items that do not fall; returns whether one of them has risen."""

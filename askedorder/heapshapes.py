@@ -4,11 +4,8 @@ from math import comb
 
 
 def left_size(many):
-    """Returns how many items of a heap stand below the left child of the first one, or are it."""
-    lowest = many.bit_length() - 1
-    if lowest == 0:
-        return 0
-    half = 1 << (lowest - 1)
+    """Returns how many of two items or more of a heap stand below the left child of the first one, or are it."""
+    half = 1 << (many.bit_length() - 2)
     on_lowest = many - (2 * half - 1)
     return half - 1 + min(on_lowest, half)
 
@@ -78,7 +75,7 @@ def _number_of_heaps(many, known):
 
 
 def number_beginning_with(ahead, many):
-    """Returns how many heaps of so many items begin with these keys, which stand as in a heap themselves.
+    """Returns how many heaps of so many items begin with these keys; there has to be one at least.
 
     The places behind them form parts, below the children of those ahead. The
     keys of a part are greater than the key that stands above it, so that the
@@ -93,8 +90,6 @@ def number_beginning_with(ahead, many):
     chosen = 0
     for above, size in parts:
         choice = sum(is_free[above + 1:]) - chosen
-        if choice < size:
-            return 0
         number *= comb(choice, size) * number_of_heaps(size)
         chosen += size
     return number

@@ -78,9 +78,7 @@ class Line:
         _check_integer("place", place)
         _check_integer("value", value)
         self._check_room(1)
-        many = len(self._shown)
-        at = max(place + many, 0) if place < 0 else min(place, many)
-        self._put_at(at, [value])
+        self._put_at(place, [value])
 
     def extend(self, values):
         """Puts several values behind all others."""
@@ -137,7 +135,8 @@ class Line:
             raise TooLarge(MOST_SHOWN)
 
     def _put_at(self, place, values):
-        self._shown[place:place] = list(values)
+        # A slice takes a place beyond an end for the end, as inserting does.
+        self._shown[place:place] = values
         if self._sorts and len(values) > 0:
             current = self._sorts[-1]
             current.is_touched = True

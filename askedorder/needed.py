@@ -78,7 +78,6 @@ def settled_at(keys, *, reverse=False):
 def _log_of_sort(keys, reverse):
     """Returns the log of the sort of keys, with honest answers."""
     check_keys(keys, 0, MOST_ITEMS)
-    check_bool("reverse", reverse)
     questions = questions_of(keys, reverse=reverse)
     return [((one, other), keys[one] < keys[other]) for one, other in questions]
 

@@ -51,5 +51,6 @@ def large_rows():
         yield [place * 37 % 101 + place // 50 for place in range(many)]
         yield sorted(numbers.randrange(many + 1) for _ in range(many - many // 9)) + [0] * (many // 9)
     yield runs_of(SHORT_THIRD)
+    yield runs_of(SHORT_THIRD)[::-1]
     yield runs_of([40, 70, 33, 100, 64, 64, 500, 300, 200, 100, 90, 80, 70, 60, 50])
     yield [10 ** 5000, -10 ** 5000, 10 ** 5000 + 1, 0, 10 ** 5000]

@@ -8,6 +8,7 @@ from askedorder.errors import InvalidAnswers, InvalidHeap, InvalidNumber
 from askedorder.heaps import (
     count_heaps, deed_done, deed_told, drained, fewest_asked, heap_at, heap_fault, heap_place, is_heap, most_asked,
 )
+from tests.reference import Asker, Stopped
 from tests.values import Checking, answers_error, int_within, is_int, keys_error, number_error, order_error
 
 DEEDS = ("heapify", "push", "pop", "replace", "pushpop")
@@ -16,60 +17,40 @@ MOST_KEYS = 2500
 MOST_TOLD = 10 ** 18
 
 
-class Stopped(Exception):
-    pass
-
-
 class Item:
-    """An item that notes each comparison, and may refuse one."""
+    """An item that asks about each comparison."""
 
-    def __init__(self, number, notes):
+    def __init__(self, number, asker):
         self.number = number
-        self.notes = notes
+        self.asker = asker
 
     def __lt__(self, other):
-        return self.notes.less(self.number, other.number)
+        return self.asker.less(self.number, other.number)
 
 
-class Notes:
-    """Answers by a function of the count and the question, up to so many questions."""
-
-    def __init__(self, answer, most=None):
-        self.answer = answer
-        self.most = most
-        self.questions = []
-        self.refused = None
-
-    def less(self, one, other):
-        if len(self.questions) == self.most:
-            self.refused = (one, other)
-            raise Stopped
-        self.questions.append((one, other))
-        return self.answer(len(self.questions) - 1, one, other)
-
-    def do(self, deed, many):
-        """Does a deed of heapq with so many items; returns (order, given)."""
-        row = [Item(number, self) for number in range(many)]
-        call = getattr(heapq, "heapify" if deed == "heapify" else "heap" + deed)
-        given = None
-        try:
-            given = call(row, Item(many, self)) if deed in WITH_NEW else call(row)
-        except Stopped:
-            pass
-        return [item.number for item in row], None if given is None else given.number
+def do_by_heapq(deed, many, asker):
+    """Does a deed of heapq with so many items; returns (order, given)."""
+    row = [Item(number, asker) for number in range(many)]
+    call = getattr(heapq, "heapify" if deed == "heapify" else "heap" + deed)
+    given = None
+    try:
+        given = call(row, Item(many, asker)) if deed in WITH_NEW else call(row)
+    except Stopped:
+        pass
+    return [item.number for item in row], None if given is None else given.number
 
 
 def done_by_heapq(deed, keys, key=None):
     both = [*keys, key]
-    notes = Notes(lambda at, one, other: both[one] < both[other])
-    order, given = notes.do(deed, len(keys))
-    return order, given, notes.questions
+    asker = Asker(lambda at, one, other: both[one] < both[other])
+    order, given = do_by_heapq(deed, len(keys), asker)
+    return order, given, asker.questions
 
 
 def told_by_heapq(deed, many, answers):
-    notes = Notes(lambda at, one, other: answers[at], len(answers))
-    order, given = notes.do(deed, many)
-    return order, given, notes.refused, notes.questions
+    asker = Asker(lambda at, one, other: answers[at], len(answers))
+    order, given = do_by_heapq(deed, many, asker)
+    return order, given, asker.refused, asker.questions
 
 
 def answers_of_heapq(deed, many, answer):
@@ -80,7 +61,7 @@ def answers_of_heapq(deed, many, answer):
         given.append(answer())
         return given[-1]
 
-    Notes(noted).do(deed, many)
+    do_by_heapq(deed, many, Asker(noted))
     return given
 
 
@@ -351,14 +332,14 @@ class Asked(Checking, unittest.TestCase):
 
 class Drained(Checking, unittest.TestCase):
     def drained_by_heapq(self, keys):
-        notes = Notes(lambda at, one, other: keys[one] < keys[other])
-        row = [Item(number, notes) for number in range(len(keys))]
+        asker = Asker(lambda at, one, other: keys[one] < keys[other])
+        row = [Item(number, asker) for number in range(len(keys))]
         heapq.heapify(row)
-        counts = [len(notes.questions)]
+        counts = [len(asker.questions)]
         given = []
         while row:
             given.append(heapq.heappop(row).number)
-            counts.append(len(notes.questions) - sum(counts))
+            counts.append(len(asker.questions) - sum(counts))
         return given, counts
 
     def test_against_heapq(self):

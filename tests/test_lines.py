@@ -1,3 +1,4 @@
+import copy
 import functools
 import itertools
 import random
@@ -390,21 +391,56 @@ class Inner(Checking, unittest.TestCase):
         self.assert_raises(RowChanged(2), line.give, False)
         self.assertEqual(state_of(line), state_of(Line([9, 8])))
 
-    def test_an_inner_sort_does_not_change_the_outer_one(self):
-        """Values that the line shows without having been put in come from nowhere: there are none."""
+    def test_an_inner_sort_changes_no_outer_one(self):
         line = Line([9, 8, 7])
         line.begin()
+        # Inner sorts of no values end at once.
         line.begin()
         line.begin(by="key")
         self.assertEqual((line.depth(), line.is_changed()), (1, False))
-        line.append(1)
-        line.append(2)
-        line.clear()
+        line.give(True)
+        line.fail()
+        self.assertEqual(line.depth(), 0)
+        line.begin()
         line.extend([4, 3])
         line.begin()
         self.assertIs(line.is_changed(), False)
         line.give(True)
+        # What changed the outer sort was that values were put in ahead of the inner one.
         self.assertIs(line.is_changed(), True)
+
+    def test_what_is_told_is_told_of_the_current_sort(self):
+        line = Line([9, 8, 7])
+        line.begin(by="key")
+        line.give(4)
+        line.extend([3, 2])
+        line.begin(by="key", reverse=True)
+        line.give(6)
+        self.assertEqual(state_of(line), ([], 2, ("key", 1), [(("key", 0), 6)], [3, 2], False))
+        line.append(5)
+        line.append(4)
+        line.begin()
+        self.assertEqual(state_of(line), ([], 3, ("less", 1, 0), [], [5, 4], False))
+        line.give(True)
+        self.assertEqual(state_of(line), ([4, 5], 2, ("key", 1), [(("key", 0), 6)], [3, 2], True))
+        line.fail()
+        self.assertEqual(state_of(line), ([3, 2], 1, ("key", 1), [(("key", 0), 4)], [9, 8, 7], True))
+
+    def test_what_is_returned_is_new(self):
+        for by in ("less", "key"):
+            line = Line([9, 8, 7])
+            line.begin(by=by)
+            line.give(True if by == "less" else 1)
+            line.append(6)
+            ahead = copy.deepcopy(state_of(line))
+            for call in (line.shown, line.asked, line.standing):
+                found = call()
+                self.assertIs(type(found), list)
+                self.assertGreater(len(found), 0)
+                found.clear()
+                self.assertEqual(state_of(line), ahead)
+            line.fail()
+            self.assertEqual(line.shown(), ahead[4])
 
     def test_many_sorts_within_one_another(self):
         line = Line([1, 0])

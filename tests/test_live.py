@@ -1,10 +1,12 @@
+import copy
 import itertools
 import random
 import unittest
 
 from askedorder.errors import InvalidAnswer, InvalidNumber, NothingAsked
+from askedorder.listsort import ListSort
 from askedorder.live import Sorter
-from askedorder.sorting import order_of, pieces_of, questions_of
+from askedorder.sorting import order_of, pieces_of, questions_of, steps_of
 from tests.reference_list import sort_by_answers
 from tests.sort_rows import runs_of, shapes
 from tests.values import Checking, int_within, number_error, odd_values
@@ -111,7 +113,7 @@ class Making(Checking, unittest.TestCase):
         sorter, states = answered_by_keys(runs_of([40, 40, 30]))
         for _ in range(10):
             sorter.undo()
-        ahead = state_of(sorter)
+        ahead = copy.deepcopy(state_of(sorter))
         for found in (sorter.asked(), sorter.order(), sorter.pieces()):
             self.assertIs(type(found), list)
             self.assertGreater(len(found), 0)
@@ -290,6 +292,25 @@ class GoingBack(Checking, unittest.TestCase):
                     self.check_undo(other, states[:count + 1] + [None])
                 sorter.reply(answer)
                 self.assertEqual(state_of(sorter), states[count + 1])
+
+    def test_the_steps_within_go_back_too(self):
+        """The steps of [7.3], which the sort within a sorter notes: undo and copies leave them as if asked anew."""
+        numbers = random.Random(90)
+        for keys in rows():
+            sort = ListSort(len(keys), False)
+            steps = {0: []}
+            while sort.waiting is not None:
+                one, other = sort.waiting
+                sort.take(keys[one] < keys[other])
+                steps[len(sort.log)] = list(sort.steps)
+            self.assertEqual(sort.steps, steps_of(keys))
+            while sort.log:
+                if numbers.random() < 0.3:
+                    twin = sort.copied()
+                    self.assertEqual(twin.steps, sort.steps)
+                    twin.steps.append(None)
+                sort.undo()
+                self.assertEqual(sort.steps, steps[len(sort.log)])
 
     def test_undo_does_not_change_a_copy(self):
         sorter, states = answered_by_keys(runs_of([70, 65]))
